@@ -1,0 +1,1 @@
+"""Flowstack: streams in layers that lose nothing."""
