@@ -37,12 +37,12 @@ class LayerWriter:
 class LayerReader:
     """Reads one layer, whose number its faults tell.
 
-    By itself it leaves bytes as they are; each layer has its own read_byte, and its own is_within if need be.
+    By itself it leaves bytes as they are; each layer has its own read_byte, and, if need be, is_within and read_end.
     """
 
     def __init__(self, number):
         self.number = number
-        self.place = 0
+        self.arrived = 0
         self.fault = None
 
     def take(self, row):
@@ -51,8 +51,8 @@ class LayerReader:
         for byte in row:
             if self.fault is not None:
                 break
+            self.arrived += 1
             told.extend(self.read_byte(byte))
-            self.place += 1
         return (told, self.fault)
 
     def read_byte(self, byte):
@@ -62,13 +62,21 @@ class LayerReader:
         """Whether the stream can not end here."""
         return False
 
+    def read_end(self):
+        """The bytes told at the end of a stream that can end here."""
+        return []
+
     def wrong(self):
-        """Nothing is told of the byte at this place, but that it is wrong."""
-        self.fault = ("wrong", self.number, self.place)
+        """Nothing is told but that the byte that came last is wrong."""
+        self.fault = ("wrong", self.number, self.arrived - 1)
         return []
 
     def end(self):
         """The pair of the bytes told at the end of the stream, and the fault, or None."""
-        if self.fault is None and self.is_within():
-            self.fault = ("cut", self.number)
-        return ([], self.fault)
+        told = []
+        if self.fault is None:
+            if self.is_within():
+                self.fault = ("cut", self.number)
+            else:
+                told = self.read_end()
+        return (told, self.fault)

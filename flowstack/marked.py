@@ -14,6 +14,10 @@ def is_runs(layer):
     return has_form(layer, "runs", 0, 0)
 
 
+def is_marked(layer):
+    return is_escape(layer) or is_runs(layer)
+
+
 def marked_writer(layer):
     if is_escape(layer):
         return EscapeWriter(layer[1])

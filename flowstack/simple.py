@@ -12,6 +12,10 @@ def is_front(layer):
     return has_form(layer, "front", 0, 0)
 
 
+def is_simple(layer):
+    return is_add(layer) or is_front(layer)
+
+
 def simple_writer(layer):
     if is_add(layer):
         return AddWriter(layer[1:])

@@ -34,6 +34,9 @@ OUT_NODES = (
     ast.Import, ast.AnnAssign,
 )
 
+WALKED = {"range", "zip", "enumerate", "reversed", "items", "keys", "values"}
+WALKING = {"list", "tuple", "dict", "sorted", "sum", "any", "all", "enumerate", "zip", "min", "max"}
+
 OWN_DUNDERS = {"__init__", "__eq__", "__repr__", "__str__", "__len__"}
 
 
@@ -68,6 +71,44 @@ class TestFiles(unittest.TestCase):
             self.assertEqual(node.level, 0, name)
             self.assertTrue(node.module.startswith("flowstack."), name)
             self.assertNotIn("*", [alias.name for alias in node.names])
+
+
+    def test_imports_come_from_the_file_that_defines_the_name(self):
+        for name, node in nodes(ast.ImportFrom):
+            drawn = PACKAGE / (node.module.split(".")[1] + ".py")
+            for alias in node.names:
+                self.assertIn(alias.name, names_at_the_top(drawn), name)
+
+    def test_no_two_files_draw_from_one_another(self):
+        drawn = {path.stem: set() for path in FILES}
+        for name, node in nodes(ast.ImportFrom):
+            drawn[name[:-len(".py")]].add(node.module.split(".")[1])
+        while drawn:
+            free = [stem for stem in drawn if not drawn[stem] & set(drawn)]
+            self.assertNotEqual(free, [], drawn)
+            drawn = {stem: others for stem, others in drawn.items() if stem not in free}
+
+    def test_the_top_of_each_file(self):
+        """A docstring, imports, functions, classes and plain values, each name bound once."""
+        for path in FILES:
+            names = names_at_the_top(path)
+            self.assertEqual(len(names), len(set(names)), path)
+            body = ast.parse(path.read_text()).body
+            self.assertIsInstance(body[0], ast.Expr)
+            for part in body[1:]:
+                self.assertIsInstance(part, (ast.ImportFrom, ast.FunctionDef, ast.ClassDef, ast.Assign), path)
+                if isinstance(part, ast.Assign):
+                    ast.literal_eval(part.value)
+
+
+def names_at_the_top(path):
+    names = []
+    for part in ast.parse(path.read_text()).body:
+        if isinstance(part, (ast.FunctionDef, ast.ClassDef)):
+            names.append(part.name)
+        elif isinstance(part, ast.Assign):
+            names.append(part.targets[0].id)
+    return names
 
 
 class TestCode(unittest.TestCase):
@@ -117,6 +158,39 @@ class TestCode(unittest.TestCase):
     def check_name(self, name):
         self.assertRegex(name, r"^[A-Za-z][A-Za-z0-9_]*$")
         self.assertNotIn(name, OUT_NAMES)
+
+    def test_is_stands_beside_none_and_truths_alone(self):
+        for name, node in nodes(ast.Compare):
+            for part, other in zip(node.ops, node.comparators):
+                if isinstance(part, (ast.Is, ast.IsNot)):
+                    self.assertIn(getattr(other, "value", "another"), (None, True, False), name)
+
+    def test_what_is_walked_at_once(self):
+        """A range and its like stand behind an `in` or straight in a call that walks them."""
+        walked = set()
+        for _, node in nodes((ast.For, ast.comprehension)):
+            walked.add(ast.dump(node.iter))
+        for _, node in nodes(ast.Call):
+            if isinstance(node.func, ast.Name) and node.func.id in WALKING and node.args:
+                walked.add(ast.dump(node.args[0]))
+        for name, node in nodes(ast.Call):
+            called = getattr(node.func, "id", getattr(node.func, "attr", None))
+            if called in WALKED:
+                self.assertIn(ast.dump(node), walked, name)
+
+    def test_powers_have_written_exponents(self):
+        for name, node in nodes(ast.BinOp):
+            if isinstance(node.op, ast.Pow):
+                self.assertIsInstance(node.right, ast.Constant, name)
+
+    def test_no_keywords_but_at_sorted_and_its_like(self):
+        for name, node in nodes(ast.Call):
+            if node.keywords:
+                self.assertIn(getattr(node.func, "id", None), ("sorted", "min", "max", "sum", "enumerate", "zip"), name)
+
+    def test_raised_errors_are_made_on_the_spot(self):
+        for name, node in nodes(ast.Raise):
+            self.assertIsInstance(node.exc, ast.Call, name)
 
     def test_methods_and_values(self):
         methods = {part.name for _, node in nodes(ast.ClassDef) for part in node.body if isinstance(part, ast.FunctionDef)}

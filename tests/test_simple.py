@@ -2,7 +2,7 @@
 
 import unittest
 
-from helpers import ROWS, read_all, reader_of, write_all, writer_of
+from helpers import ROWS, places_of, read_all, reader_of, write_all, writer_of
 
 KEY_OF_8 = ("add", 1, 2, 3, 4, 5, 6, 7, 255)
 
@@ -82,19 +82,6 @@ class TestFront(unittest.TestCase):
         for row in ROWS:
             with self.subTest(length=len(row)):
                 self.assertEqual(write_all(("front",), row), places_of(row))
-
-
-def places_of(row):
-    """Of each byte: how many others came since it came last, or, if it never came, stand ahead of it."""
-    places = []
-    for at, byte in enumerate(row):
-        ahead = row[:at]
-        if byte in ahead:
-            since = ahead[len(ahead) - ahead[::-1].index(byte):]
-            places.append(len(set(since)))
-        else:
-            places.append(byte + len([other for other in set(ahead) if other > byte]))
-    return places
 
 
 class TestAtOnce(unittest.TestCase):

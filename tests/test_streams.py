@@ -1,15 +1,29 @@
-"""What holds for all four layers: [0.1] nothing is changed or kept; what is written is read again."""
+"""What holds for each layer by itself and for stacks: [0.1] nothing is changed or kept; what is written is read again."""
 
 import unittest
 
-from helpers import LAYERS, ROWS, pieces_of, read_pieces, reader_of, write_all, write_pieces, writer_of
+from helpers import (
+    LAYERS, ROWS, STACKS, pieces_of, read_all, read_pieces, reader_of, write_all, write_pieces, writer_of
+)
 
-STREAM_WITH_FAULT = {"escape": [0, 253, 254, 255, 0], "runs": [1, 1, 0]}
+BOTH = LAYERS + STACKS
+
+# Each stream has a fault for the layers of its name, behind at least one byte that is told or held.
+STREAMS_WITH_FAULT = [
+    (("escape", 0), [7, 8, 0, 9]),
+    (("runs",), [1, 1, 0]),
+    (("chunks", 3), [3, 7, 7, 7, 4]),
+    (("checks", 1), [7, 0, 8, 7, 7, 7]),
+    (("signs",), [48, 48, 48, 0]),
+    ([("runs",)], [1, 1, 0]),
+    ([("chunks", 2), ("runs",)], [3, 2, 1, 9]),
+    ([("signs",), ("checks", 1)], [48, 0, 49, 48, 48, 48]),
+]
 
 
 class TestThereAndBack(unittest.TestCase):
     def test_whatever_the_pieces(self):
-        for layer in LAYERS:
+        for layer in BOTH:
             for row in ROWS:
                 with self.subTest(layer=layer, length=len(row)):
                     stream = write_all(layer, row)
@@ -19,16 +33,19 @@ class TestThereAndBack(unittest.TestCase):
                         self.assertEqual(read_pieces(layer, pieces), (row, None, None))
 
     def test_what_is_told_is_the_beginning_of_what_was_written(self):
-        for layer in LAYERS:
-            for row in ROWS:
+        for layer in BOTH:
+            for row in ROWS[:6] + ROWS[-2:]:
                 reader = reader_of(layer)
                 told = []
                 for byte in write_all(layer, row):
-                    told += reader.take([byte])[0]
-                    self.assertEqual(told, row[:len(told)])
+                    some, fault = reader.take([byte])
+                    told += some
+                    self.assertIsNone(fault)
+                    self.assertEqual(some, row[len(told) - len(some):len(told)])
+                self.assertEqual((told + reader.end()[0]), row)
 
     def test_streams_hold_bytes_alone(self):
-        for layer in LAYERS:
+        for layer in BOTH:
             for row in ROWS:
                 for byte in write_all(layer, row):
                     self.assertIs(type(byte), int)
@@ -37,26 +54,37 @@ class TestThereAndBack(unittest.TestCase):
 
 class TestKinds(unittest.TestCase):
     def test_a_writer_tells_lists(self):
-        for layer in LAYERS:
+        for layer in BOTH:
             writer = writer_of(layer)
             self.assertIs(type(writer.take([1, 2, 2])), list)
             self.assertIs(type(writer.take([])), list)
             self.assertIs(type(writer.end()), list)
 
-    def test_a_reader_tells_pairs_of_a_list_and_a_fault(self):
-        for layer in LAYERS:
-            stream = STREAM_WITH_FAULT.get(layer[0], [1, 2])
+    def assert_pair(self, told, fault_kinds):
+        self.assertIs(type(told), tuple)
+        self.assertEqual(len(told), 2)
+        self.assertIs(type(told[0]), list)
+        self.assertIn(type(told[1]), fault_kinds)
+
+    def test_a_reader_tells_pairs_of_a_list_and_none(self):
+        for layer in BOTH:
             reader = reader_of(layer)
-            for told in [reader.take([]), reader.take(stream), reader.end()]:
-                self.assertIs(type(told), tuple)
-                self.assertEqual(len(told), 2)
-                self.assertIs(type(told[0]), list)
-                self.assertIn(type(told[1]), (tuple, type(None)))
+            for piece in [[], write_all(layer, [1, 2, 2])]:
+                self.assert_pair(reader.take(piece), (type(None),))
+            self.assert_pair(reader.end(), (type(None),))
+
+    def test_a_reader_tells_pairs_of_a_list_and_a_fault(self):
+        for layer, stream in STREAMS_WITH_FAULT:
+            with self.subTest(layer=layer):
+                reader = reader_of(layer)
+                self.assert_pair(reader.take(stream), (tuple,))
+                self.assert_pair(reader.take([]), (tuple,))
+                self.assert_pair(reader.end(), (tuple,))
 
 
 class TestNothingIsChangedOrKept(unittest.TestCase):
     def test_lists_handed_to_a_writer_are_unchanged(self):
-        for layer in LAYERS:
+        for layer in BOTH:
             for row in ROWS:
                 handed = list(row)
                 writer = writer_of(layer)
@@ -65,16 +93,21 @@ class TestNothingIsChangedOrKept(unittest.TestCase):
                 self.assertEqual(handed, row)
 
     def test_lists_handed_to_a_reader_are_unchanged(self):
-        for layer in LAYERS:
-            for stream in ROWS + list(STREAM_WITH_FAULT.values()):
-                handed = list(stream)
-                reader = reader_of(layer)
-                reader.take(handed)
-                reader.end()
-                self.assertEqual(handed, stream)
+        for layer in BOTH:
+            for row in ROWS:
+                self.assert_stream_is_unchanged(layer, write_all(layer, row))
+        for layer, stream in STREAMS_WITH_FAULT:
+            self.assert_stream_is_unchanged(layer, stream)
+
+    def assert_stream_is_unchanged(self, layer, stream):
+        handed = list(stream)
+        reader = reader_of(layer)
+        reader.take(handed)
+        reader.end()
+        self.assertEqual(handed, stream)
 
     def test_lists_handed_to_a_writer_are_not_kept(self):
-        for layer in LAYERS:
+        for layer in BOTH:
             for row in ROWS:
                 writer = writer_of(layer)
                 handed = list(row)
@@ -83,7 +116,7 @@ class TestNothingIsChangedOrKept(unittest.TestCase):
                 self.assertEqual(told + writer.take(row) + writer.end(), write_all(layer, row + row))
 
     def test_lists_handed_to_a_reader_are_not_kept(self):
-        for layer in LAYERS:
+        for layer in BOTH:
             for row in ROWS:
                 stream = write_all(layer, row + row)
                 half = len(stream) // 2
@@ -91,11 +124,11 @@ class TestNothingIsChangedOrKept(unittest.TestCase):
                 handed = stream[:half]
                 told = list(reader.take(handed)[0])
                 handed[:] = [77, 78, 79]
-                self.assertEqual(told + reader.take(stream[half:])[0], row + row)
+                self.assertEqual(told + reader.take(stream[half:])[0] + reader.end()[0], row + row)
 
     def test_lists_told_by_a_writer_are_new(self):
         """Spoiling each list that was told changes nothing of what is told behind it."""
-        for layer in LAYERS:
+        for layer in BOTH:
             for row in ROWS:
                 writer = writer_of(layer)
                 copies, lists = [], []
@@ -105,7 +138,7 @@ class TestNothingIsChangedOrKept(unittest.TestCase):
                 self.assertEqual(copies, write_all(layer, row * 3))
 
     def test_lists_told_by_a_reader_are_new(self):
-        for layer in LAYERS:
+        for layer in BOTH:
             for row in ROWS:
                 reader = reader_of(layer)
                 copies, lists = [], []
@@ -115,13 +148,14 @@ class TestNothingIsChangedOrKept(unittest.TestCase):
                 self.assertEqual(copies, row)
 
     def test_lists_told_with_a_fault_are_new(self):
-        for layer in LAYERS:
-            if layer[0] in STREAM_WITH_FAULT:
+        for layer, stream in STREAMS_WITH_FAULT:
+            with self.subTest(layer=layer):
                 reader = reader_of(layer)
                 copies, lists = [], []
-                for piece in [STREAM_WITH_FAULT[layer[0]], [1], [1]]:
-                    self.take_apart(reader.take(piece)[0], piece, copies, lists)
+                self.take_apart(reader.take(stream)[0], stream, copies, lists)
                 length = len(copies)
+                for piece in [[1], [1]]:
+                    self.take_apart(reader.take(piece)[0], piece, copies, lists)
                 self.take_apart(reader.end()[0], None, copies, lists)
                 self.assertEqual(len(copies), length)
 
@@ -134,15 +168,28 @@ class TestNothingIsChangedOrKept(unittest.TestCase):
         told[:] = [66, 67, 68]
 
     def test_writers_and_readers_of_one_layer_share_nothing(self):
-        for layer in LAYERS:
+        for layer in BOTH:
             for row in ROWS:
                 stream = write_all(layer, row)
                 one, other = writer_of(layer), writer_of(layer)
                 one.take([3, 3, 200])
                 self.assertEqual(other.take(row) + other.end(), stream)
                 one, other = reader_of(layer), reader_of(layer)
-                one.take([3, 3, 200])
-                self.assertEqual((other.take(stream), other.end()), ((row, None), ([], None)))
+                one.take(stream[:1] + [3, 3, 200])
+                told, fault = other.take(stream)
+                one.end()
+                last, last_fault = other.end()
+                self.assertEqual((told + last, fault, last_fault), (row, None, None))
+
+    def test_a_fault_of_one_reader_is_not_one_of_another(self):
+        for layer, stream in STREAMS_WITH_FAULT:
+            with self.subTest(layer=layer):
+                one, other = reader_of(layer), reader_of(layer)
+                self.assertIsNotNone(one.take(stream)[1])
+                good = write_all(layer, [1, 2])
+                self.assertIsNone(other.take(good)[1])
+                self.assertIsNone(other.end()[1])
+                self.assertEqual(read_all(layer, good), ([1, 2], None, None))
 
 
 if __name__ == "__main__":
